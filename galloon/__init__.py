@@ -1,0 +1,1 @@
+"""Galloon: strips of columns under deeds."""
