@@ -253,7 +253,7 @@ class ClassMethodsTest(Checked):
         rng = random.Random(75)
         for scheme, most in zip(SCHEMES, [4, 3, 3, 2, 2]):
             bales = [Bale.none(scheme), Bale.every(scheme)]
-            bales += [Bale(scheme, *random_rows(rng, scheme, 3)) for _ in range(5)]
+            bales += [Bale(scheme, *random_rows(rng, scheme, 3)) for _ in range(5 if len(scheme) < 5 else 2)]
             for first, second in itertools.product(bales, repeat=2):
                 loom = Loom.crossed(first, second)
                 pairs = {(x, y) for x in members(first, most) for y in members(second, most) if len(x) == len(y)}

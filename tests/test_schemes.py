@@ -157,10 +157,14 @@ class PicturesTest(Checked):
         self.fails(BadPicture, {"line": 2}, Scheme(3, 2).of_picture, ["01", "1"])
         self.fails(BadPicture, {"line": 1}, Scheme(3, 2).of_picture, ["02"])
 
-    def test_the_lines_are_not_changed(self):
+    def test_lists_are_not_changed_and_new_each_time(self):
         lines = ["001", "011"]
-        TWO.of_picture(lines)
+        self.assertEqual(TWO.of_picture(lines), "abd")
         self.assertEqual(lines, ["001", "011"])
+        for _ in range(2):
+            found = TWO.picture("abd")
+            self.assertEqual(found, lines)
+            found.clear()
 
 
 class SpotsTest(Checked):
