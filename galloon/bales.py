@@ -76,11 +76,10 @@ class Bale:
         return any(self.goods)
 
     def __contains__(self, text):
+        places = {column: place for place, column in enumerate(self.scheme.columns)}
         state = 0
         for column in text:
-            if column not in self.scheme.columns:
-                return False
-            state = self.rows[state][self.scheme.columns.index(column)]
+            state = self.rows[state][places[column]] if column in places else -1
             if state < 0:
                 return False
         return self.goods[state]
@@ -124,7 +123,7 @@ class Bale:
             for column, after in zip(self.scheme.columns, row):
                 if after > 0 and after not in before:
                     before[after] = (state, column)
-        at = self.goods.index(True)
+        at = min([state for state, good in enumerate(self.goods) if good])
         strip = ""
         while at > 0:
             at, column = before[at]

@@ -264,7 +264,7 @@ def _combination(first, second, wanted):
 
 def _product(first, second):
     """The two looms behind each other: its states are pairs of theirs."""
-    ahead = [_by_read(row) for row in second.arcs]
+    ahead = [_by_read(leading) for leading in second.arcs]
     numbers = {(0, 0): 0}
     queue = [(0, 0)]
     arcs = []

@@ -93,7 +93,7 @@ def _coloured_columns(scheme, pattern, at):
     """The columns that have a colour in a row, from the two digits at an index."""
     if at + 1 == len(pattern) or not scheme.is_colour(pattern[at + 1]):
         raise BadPattern(at + 1)
-    row = DIGITS.index(pattern[at])
+    row = int(pattern[at])
     colour = pattern[at + 1]
     return "".join([column for column in scheme.columns if scheme.spots(column)[row] == colour]), at + 2
 

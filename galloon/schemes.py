@@ -63,7 +63,7 @@ class Scheme:
         """The colours of a column, the top row first."""
         if not self.is_column(column):
             raise BadColumn(column)
-        number = self.columns.index(column)
+        number = ord(column) - ord(self.BLANK)
         spots = ""
         for _ in range(self.rows):
             spots = DIGITS[number % self.colours] + spots
@@ -76,7 +76,7 @@ class Scheme:
             raise BadSpots(spots)
         number = 0
         for spot in spots:
-            number = number * self.colours + DIGITS.index(spot)
+            number = number * self.colours + int(spot)
         return self.columns[number]
 
     def picture(self, strip):

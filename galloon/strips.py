@@ -65,5 +65,5 @@ def _raised(scheme, strip):
     kept = strip.rstrip(scheme.columns[-1])
     if not kept:
         return ""
-    at = scheme.columns.index(kept[-1])
-    return kept[:-1] + scheme.columns[at + 1]
+    raised = {lower: higher for lower, higher in zip(scheme.columns, scheme.columns[1:])}
+    return kept[:-1] + raised[kept[-1]]
