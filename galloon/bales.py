@@ -110,7 +110,7 @@ class Bale:
     def within(self, other):
         """Does each strip of this bale belong to the other one?"""
         check_alike(self, other)
-        _, goods = combined(_firm(self), _firm(other), FIRST_ONLY)
+        _, goods = combined(firm_of(self), firm_of(other), FIRST_ONLY)
         return not any(goods)
 
     def first(self):
@@ -224,6 +224,11 @@ def arcs_of(bale):
     return [[(column, after) for column, after in zip(columns, row) if after >= 0] for row in bale.rows]
 
 
+def firm_of(bale):
+    """The table of a bale as a firm one."""
+    return ([_steps_of(bale.scheme, row) for row in bale.rows], bale.goods)
+
+
 def _check_rows(scheme, rows, goods):
     """Raise BadTable(place) for the first part that is wrong in a table."""
     if not rows or len(goods) != len(rows):
@@ -243,15 +248,10 @@ def _filled(scheme, rows):
     return [[row.get(column, -1) for column in scheme.columns] for row in rows]
 
 
-def _firm(bale):
-    """The table of a bale as a firm one."""
-    return ([_steps_of(bale.scheme, row) for row in bale.rows], bale.goods)
-
-
 def _combination(first, second, wanted):
     """The bale of what two bales have, as `combined` says."""
     check_alike(first, second)
-    rows, goods = combined(_firm(first), _firm(second), wanted)
+    rows, goods = combined(firm_of(first), firm_of(second), wanted)
     return Bale(first.scheme, _filled(first.scheme, rows), goods)
 
 

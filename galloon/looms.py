@@ -223,6 +223,14 @@ class Loom:
         return lines
 
 
+def by_read(row):
+    """For each column the pairs of what is written for it and the next state."""
+    found = {}
+    for read, write, after in row:
+        found.setdefault(read, []).append((write, after))
+    return found
+
+
 def _check_arcs(scheme, arcs, goods):
     """Raise BadTable(place) for the first part that is wrong in a table."""
     if not arcs or len(goods) != len(arcs):
@@ -264,7 +272,7 @@ def _combination(first, second, wanted):
 
 def _product(first, second):
     """The two looms behind each other: its states are pairs of theirs."""
-    ahead = [_by_read(leading) for leading in second.arcs]
+    ahead = [by_read(leading) for leading in second.arcs]
     numbers = {(0, 0): 0}
     queue = [(0, 0)]
     arcs = []
@@ -281,14 +289,6 @@ def _product(first, second):
         arcs.append(row)
     goods = [first.goods[one] and second.goods[other] for one, other in queue]
     return Loom(first.scheme, arcs, goods)
-
-
-def _by_read(row):
-    """For each column the pairs of what is written for it and the next state."""
-    found = {}
-    for read, write, after in row:
-        found.setdefault(read, []).append((write, after))
-    return found
 
 
 def _squared(loom, times):

@@ -124,6 +124,66 @@ def _onward(arcs, live, states):
     return found
 
 
+def first_word(arcs, goods):
+    """The first word that a loose table accepts, the shorter ones first, or None."""
+    distances = _distances(arcs, goods)
+    left = distances[0]
+    if left < 0:
+        return None
+    word = ""
+    states = [0]
+    while left > 0:
+        left -= 1
+        onward = [arc for state in states for arc in arcs[state] if distances[arc[1]] == left]
+        letter = min([arc[0] for arc in onward])
+        states = sorted({after for found, after in onward if found == letter})
+        word = word + letter
+    return word
+
+
+def _distances(arcs, goods):
+    """For each state of a loose table the least number of arcs to a good state, or -1."""
+    into = backwards(arcs)
+    queue = [state for state, good in enumerate(goods) if good]
+    distances = [0 if good else -1 for good in goods]
+    at = 0
+    while at < len(queue):
+        state = queue[at]
+        for _, before in into[state]:
+            if distances[before] < 0:
+                distances[before] = distances[state] + 1
+                queue.append(before)
+        at += 1
+    return distances
+
+
+def first_beyond(firm, loose):
+    """The first word that a firm table `(rows, goods)` accepts and a loose one does not, or None.
+
+    Both are read at once, the loose one by sets of states. The search ends at the first
+    such word, however many sets there are behind it.
+    """
+    rows, goods = firm
+    arcs, marks = loose
+    live = live_states(arcs, marks)
+    queue = [(0, (0,))]
+    words = {queue[0]: ""}
+    at = 0
+    while at < len(queue):
+        state, states = queue[at]
+        word = words[queue[at]]
+        if goods[state] and not any([marks[one] for one in states]):
+            return word
+        found = _onward(arcs, live, states)
+        for letter in sorted(rows[state]):
+            pair = (rows[state][letter], tuple(sorted(set(found.get(letter, [])))))
+            if pair not in words:
+                words[pair] = word + letter
+                queue.append(pair)
+        at += 1
+    return None
+
+
 def combined(first, second, wanted):
     """The firm table of what two firm tables `(rows, goods)` accept.
 

@@ -14,7 +14,8 @@ CALLED = {
     "list", "tuple", "dict", "set", "isinstance", "ord", "repr", "any", "all", "divmod", "iter", "next", "super",
     "map", "pow",
 }
-ERRORS = {"ValueError", "TypeError", "KeyError", "ZeroDivisionError", "NotImplemented"}
+ERRORS = {"ValueError", "TypeError", "KeyError", "ZeroDivisionError", "NotImplementedError", "NotImplemented"}
+LIBRARY = {"math": {"gcd", "lcm"}}
 DECORATORS = {"classmethod", "staticmethod", "property"}
 NODES = (ast.AsyncFunctionDef, ast.AsyncFor, ast.AsyncWith, ast.Await, ast.Import, ast.Div, ast.AnnAssign)
 NO_GENERATORS = {"any", "all", "min", "max", "sum", "sorted"}
@@ -90,8 +91,11 @@ class FormTest(unittest.TestCase):
             for node in ast.walk(tree):
                 if isinstance(node, ast.ImportFrom):
                     self.assertIn(node, tree.body)
-                    self.assertTrue(node.module.startswith("galloon."))
                     self.assertEqual(node.level, 0)
+                    if node.module in LIBRARY:
+                        self.assertLessEqual({alias.name for alias in node.names}, LIBRARY[node.module])
+                        continue
+                    self.assertTrue(node.module.startswith("galloon."))
                     home = ast.parse((PACKAGE / (node.module.split(".")[1] + ".py")).read_text())
                     made = [part.name for part in home.body if isinstance(part, (ast.FunctionDef, ast.ClassDef))]
                     made += [part.targets[0].id for part in home.body if isinstance(part, ast.Assign)]
@@ -144,6 +148,21 @@ class FormTest(unittest.TestCase):
                 self.assertEqual(set(local) & set(classes + imports), set(), node.name)
                 read = [part for part in ast.walk(node) if isinstance(part, ast.Name) and part.id == "_"]
                 self.assertFalse([part for part in read if isinstance(part.ctx, ast.Load)], node.name)
+
+    def test_no_class_is_read_within_a_comprehension_or_a_nested_function(self):
+        inner = (ast.ListComp, ast.DictComp, ast.SetComp, ast.GeneratorExp, ast.Lambda, ast.FunctionDef)
+        for _, _, tree in self.each():
+            for node in functions(tree):
+                within = [part for part in ast.walk(node) if isinstance(part, inner) and part is not node]
+                names = [name.id for part in within for name in ast.walk(part) if isinstance(name, ast.Name)]
+                self.assertNotIn("cls", names, node.name)
+
+    def test_classes_with_items_refuse_iteration(self):
+        for _, _, tree in self.each():
+            for node in tree.body:
+                made = [part.name for part in ast.walk(node) if isinstance(part, ast.FunctionDef)]
+                if "__getitem__" in made:
+                    self.assertIn("__iter__", made)
 
     def test_builtins_and_methods(self):
         own = {node.name for _, _, tree in self.each() for node in functions(tree)}

@@ -149,7 +149,7 @@ class OperatorsTest(unittest.TestCase):
 
     def test_what_operators_run_is_found(self):
         names = {node.name for node in self.reached}
-        self.assertLessEqual({"__contains__", "__mul__", "_product", "_by_read", "least", "determined"}, names)
+        self.assertLessEqual({"__contains__", "__mul__", "_product", "by_read", "least", "determined"}, names)
 
     def test_no_method_is_called_by_the_name_of_an_attribute(self):
         stored = stored_attributes(self.files)
