@@ -97,7 +97,8 @@ class Bale:
         return _combination(self, other, JUST_ONE)
 
     def __invert__(self):
-        return Bale.every(self.scheme) - self
+        every = Bale(self.scheme, [[0] * len(self.scheme)], [True])
+        return _combination(every, self, FIRST_ONLY)
 
     def __add__(self, other):
         check_alike(self, other)

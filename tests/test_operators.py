@@ -74,7 +74,6 @@ def run_by_operators(files):
     while waiting:
         node = waiting.pop()
         calls = [called_name(part) for part in ast.walk(node) if isinstance(part, ast.Call)]
-        # A class method calls its class by `cls`: all constructors that stand there are looked at anyway.
         for name in calls:
             for other in own.get(name, []):
                 if other not in found:
@@ -110,7 +109,7 @@ def is_new(value):
     if isinstance(value, ast.Call) and isinstance(value.func, ast.Name):
         return value.func.id in MAKERS
     if isinstance(value, ast.BinOp):
-        return is_new(value.left) or is_new(value.right)
+        return is_new(value.left) and is_new(value.right)
     return isinstance(value, ast.Subscript) and isinstance(value.slice, ast.Slice)
 
 
@@ -161,12 +160,11 @@ class OperatorsTest(unittest.TestCase):
 
     def test_nothing_is_called_that_is_passed_or_local(self):
         for function in self.reached:
-            allowed = {"cls"} if "classmethod" in decorators(function) else set()
             for node in ast.walk(function):
                 if isinstance(node, ast.Call):
                     self.assertIsInstance(node.func, (ast.Name, ast.Attribute), function.name)
                     if isinstance(node.func, ast.Name):
-                        self.assertNotIn(node.func.id, bound_here(function) - allowed, function.name)
+                        self.assertNotIn(node.func.id, bound_here(function), function.name)
                     for keyword in node.keywords:
                         self.assertNotEqual(keyword.arg, "key", function.name)
 
