@@ -17,6 +17,8 @@ class Deed:
         self.scheme = scheme
         self.short = 0
         self.flips = False
+        # The loom, once it has been made: some looms take long to make.
+        self._woven = None
 
     def loom(self):
         """The loom of the deed."""
@@ -63,3 +65,8 @@ class Deed:
         """What becomes of a strip that the loom says."""
         kept = text[:len(text) - self.short]
         return mirrored(kept) if self.flips else kept
+
+
+def written(text):
+    """A word of a written form: the empty one is written as `-`."""
+    return text if text else "-"

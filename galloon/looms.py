@@ -26,7 +26,7 @@ class Loom:
     @classmethod
     def identity(cls, scheme):
         """The loom that says each strip for itself."""
-        return cls(scheme, [_unchanged(scheme, 0)], [True])
+        return cls(scheme, [unchanged(scheme, 0)], [True])
 
     @classmethod
     def every(cls, scheme):
@@ -156,13 +156,13 @@ class Loom:
         if back < 0:
             raise BadCount(back)
         behind = front + len(self)
-        arcs = [_unchanged(self.scheme, at + 1) for at in range(front)]
+        arcs = [unchanged(self.scheme, at + 1) for at in range(front)]
         for row, good in zip(self.arcs, self.goods):
             moved = [(read, write, after + front) for read, write, after in row]
-            arcs.append(moved + _unchanged(self.scheme, behind) if good and back else moved)
+            arcs.append(moved + unchanged(self.scheme, behind) if good and back else moved)
         if not back:
             return Loom(self.scheme, arcs, [False] * front + self.goods)
-        arcs = arcs + [_unchanged(self.scheme, behind + at) for at in range(1, back)] + [[]]
+        arcs = arcs + [unchanged(self.scheme, behind + at) for at in range(1, back)] + [[]]
         return Loom(self.scheme, arcs, [False] * (len(arcs) - 1) + [True])
 
     def says(self, before, after):
@@ -231,6 +231,26 @@ def by_read(row):
     return found
 
 
+def unchanged(scheme, after):
+    """The arcs that leave any column as it is and lead to one state."""
+    return [(column, column, after) for column in scheme.columns]
+
+
+def overwritten(scheme, column, after):
+    """The arcs that write one column for any column and lead to one state."""
+    return [(read, column, after) for read in scheme.columns]
+
+
+def named_loom(scheme, steps, ends):
+    """The loom of a table whose states have names: `steps` has the arcs of each name.
+
+    The first name is the start; `ends` is the list of the names of the good states.
+    """
+    numbers = {name: number for number, name in enumerate(steps)}
+    arcs = [[(read, write, numbers[after]) for read, write, after in steps[name]] for name in steps]
+    return Loom(scheme, arcs, [name in ends for name in steps])
+
+
 def _check_arcs(scheme, arcs, goods):
     """Raise BadTable(place) for the first part that is wrong in a table."""
     if not arcs or len(goods) != len(arcs):
@@ -249,11 +269,6 @@ def _arcs_of(rows):
 def _firm(loom):
     """The table of a loom as a firm one."""
     return ([{read + write: after for read, write, after in row} for row in loom.arcs], loom.goods)
-
-
-def _unchanged(scheme, after):
-    """The arcs that leave any column as it is and lead to one state."""
-    return [(column, column, after) for column in scheme.columns]
 
 
 def _of_bale(bale):

@@ -31,6 +31,12 @@ def pattern_table(scheme, pattern):
     return arcs, goods
 
 
+def is_described(scheme, pattern, strip):
+    """Does a pattern describe a strip? It is read along the strip, without any table."""
+    ends, _ = _ends(_tokens(scheme, pattern), 0, strip, [0])
+    return len(strip) in ends
+
+
 def _tokens(scheme, pattern):
     """The tokens of a pattern; BadPattern(place) for the first character that is wrong."""
     tokens = []
@@ -146,3 +152,42 @@ def _repeated(part, sign):
     if sign != "?":
         pairs = pairs + tuple([(last, first) for last in lasts for first in firsts])
     return (empty or sign != "+", firsts, lasts, pairs)
+
+
+def _ends(tokens, at, strip, begins):
+    """The indexes of a strip to which a pattern leads from other ones, and the token behind it."""
+    found, at = _branch_ends(tokens, at, strip, begins)
+    while at < len(tokens) and tokens[at] == "|":
+        more, at = _branch_ends(tokens, at + 1, strip, begins)
+        found = sorted(set(found + more))
+    return found, at
+
+
+def _branch_ends(tokens, at, strip, begins):
+    """The indexes of a strip to which one branch leads from other ones, and the token behind it."""
+    found = begins
+    while at < len(tokens) and tokens[at] not in ("|", ")"):
+        found, at = _item_ends(tokens, at, strip, found)
+    return found, at
+
+
+def _item_ends(tokens, at, strip, begins):
+    """The indexes of a strip to which one item leads from other ones, and the token behind it."""
+    found, behind = _atom_ends(tokens, at, strip, begins)
+    if behind == len(tokens) or tokens[behind] not in REPEATS:
+        return found, behind
+    sign = tokens[behind]
+    fresh = found if sign != "?" else []
+    while fresh:
+        more, _ = _atom_ends(tokens, at, strip, fresh)
+        fresh = [end for end in more if end not in found]
+        found = found + fresh
+    return sorted(set(found if sign == "+" else found + begins)), behind + 1
+
+
+def _atom_ends(tokens, at, strip, begins):
+    """The indexes of a strip to which one atom leads from other ones, and the token behind it."""
+    if tokens[at] == "(":
+        found, at = _ends(tokens, at + 1, strip, begins)
+        return found, at + 1
+    return [begin + 1 for begin in begins if begin < len(strip) and strip[begin] in tokens[at]], at + 1

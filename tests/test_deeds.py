@@ -63,7 +63,7 @@ def probes(seed, many):
 class BaseTest(Checked):
     def test_attributes(self):
         deed = Deed(TWO)
-        self.assertEqual(vars(deed), {"scheme": TWO, "short": 0, "flips": False})
+        self.assertEqual((deed.scheme, deed.short, deed.flips), (TWO, 0, False))
         self.assertIs(deed.flips, False)
 
     def test_only_subclasses_have_looms(self):
