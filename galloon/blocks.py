@@ -133,13 +133,16 @@ def words_of(scheme, width):
 def _least_form(scheme, left, right, results):
     """The parts of the least form of a table."""
     many = len(scheme)
-    while left > 0 and results == results[:len(results) // many] * many:
-        results = results[:len(results) // many]
-        left -= 1
-    while right > 0 and _is_blind(results, many):
-        results = results[::many]
-        right -= 1
-    return left, right, results
+    least = results
+    front = left
+    while front > 0 and least == least[:len(least) // many] * many:
+        least = least[:len(least) // many]
+        front -= 1
+    back = right
+    while back > 0 and _is_blind(least, many):
+        least = least[::many]
+        back -= 1
+    return front, back, least
 
 
 def _is_blind(results, many):

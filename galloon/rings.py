@@ -17,13 +17,14 @@ def ring_sources(block, strip):
     if not strip:
         return [strip]
     steps = _ring_steps(block)
-    begins = [begin for begin in steps if _count_rounds(steps, strip, begin) > 0]
-    if sum([_count_rounds(steps, strip, begin) for begin in begins]) > MOST_SOURCES:
+    counts = {begin: _count_rounds(steps, strip, begin) for begin in steps}
+    if sum(list(counts.values())) > MOST_SOURCES:
         raise TooMany(MOST_SOURCES)
     found = []
-    for begin in begins:
-        # The first window of a ring ends with the column at the index `right`.
-        found.extend([turned(walk, -block.right) for walk in _rounds(steps, strip, begin)])
+    for begin in steps:
+        if counts[begin] > 0:
+            # The first window of a ring ends with the column at the index `right`.
+            found.extend([turned(walk, -block.right) for walk in _rounds(steps, strip, begin)])
     return sorted(found)
 
 

@@ -90,14 +90,11 @@ def _ended(layers):
 
 def _histories(rule):
     """All lists of colours that a place may have one after the other, as strings."""
-    colours = DIGITS[:rule.scheme.colours]
-    if rule.drift == "still":
-        return list(colours)
     found = [""]
-    for colour in colours:
+    for colour in DIGITS[:rule.scheme.colours]:
         found = found + [history + colour for history in found]
     rising = found[1:]
-    return rising if rule.drift == "up" else [history[::-1] for history in rising]
+    return [history[::-1] for history in rising] if rule.drift == "down" else rising
 
 
 def _seams_between(history, other):

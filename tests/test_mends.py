@@ -182,6 +182,19 @@ class RestTest(Checked):
         self.fails(TooMany, {"most": 200}, deed.played, "a" * 40)
         self.fails(BadStrip, {"text": "a" * 40 + "c"}, deed.played, "a" * 40 + "c")
 
+    def test_above_200_with_few_strips_on_the_way(self):
+        # Two blanks between c can rest in 4 ways, and pass only 7 strips.
+        deed = Rest(Rule.read(THREE, "0:#2,0,0>1;0,0,#2>1;#2,1,0>2;0,1,#2>2;1,0,#2>2;#2,0,1>2"))
+        self.assertEqual(deed.played("aa"), ["ac", "bc", "ca", "cb"])
+        self.assertEqual(len(reachable(deed.rule, "aa")), 7)
+        for strip, many in (("aacaacaa", 64), ("aacaacaacaa", 256)):
+            self.assertEqual(deed.loom().count_outs(strip), many)
+            for call in (deed.outs, deed.played):
+                if many > 200:
+                    self.fails(TooMany, {"most": 200}, call, strip)
+                else:
+                    self.assertEqual(sorted(call(strip)), sorted(plain_rests(deed.rule, strip)))
+
     def test_no_drift(self):
         for scheme, text in ((ONE, "0:#,0,#>1;1,1,1>0"), (THREE, "0:#,.,#>1"), (TWO, "0:#01,.1,#01>1;#01,.0,#01>0")):
             self.fails(NoDrift, {}, Rest, Rule.read(scheme, text))

@@ -149,6 +149,7 @@ class OperatorsTest(unittest.TestCase):
     def test_what_operators_run_is_found(self):
         names = {node.name for node in self.reached}
         self.assertLessEqual({"__contains__", "__mul__", "_product", "by_read", "least", "determined"}, names)
+        self.assertLessEqual({"drift", "monotone", "_grown_looks", "_apart", "column_at", "inner", "_least_form"}, names)
 
     def test_no_method_is_called_by_the_name_of_an_attribute(self):
         stored = stored_attributes(self.files)
