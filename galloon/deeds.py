@@ -1,6 +1,7 @@
 """The base class of all deeds: what follows from a loom, the columns cut off, and mirroring."""
 
 from galloon.bales import Bale
+from galloon.cuts import cut_loom
 from galloon.schemes import check_alike
 from galloon.strips import mirrored
 
@@ -17,12 +18,26 @@ class Deed:
         self.scheme = scheme
         self.short = 0
         self.flips = False
-        # The loom, once it has been made: some looms take long to make.
+        # The looms, once they have been made: some looms take long to make.
         self._woven = None
+        self._backward = None
 
     def loom(self):
         """The loom of the deed."""
         raise NotImplementedError("each kind of deed has its own loom")
+
+    def backward_loom(self):
+        """The loom that does on mirrored strips what the deed does, with the blanks behind what remains."""
+        if self._backward is None:
+            turned_round = self.loom().mirrored()
+            # It writes the blanks at the front.
+            moving = cut_loom(self.scheme, self.short, 0)
+            self._backward = turned_round * moving if self.short > 0 else turned_round
+        return self._backward
+
+    def woven_on(self, bale):
+        """What the loom of the deed says for the strips of a bale."""
+        return self.loom().on(bale)
 
     def played(self, strip):
         """The same list as that of `outs`, found without any loom."""
@@ -38,8 +53,8 @@ class Deed:
         """Does the deed make the second strip of the first one?"""
         self.scheme.check(before)
         self.scheme.check(after)
-        unfinished = mirrored(after) if self.flips else after
-        return self.loom().says(before, unfinished + self._blanks())
+        kept = mirrored(after) if self.flips else after
+        return self.loom().says(before, kept + self.scheme.BLANK * self.short)
 
     def image(self, bale):
         """The bale of all strips that the deed makes of a strip of the bale."""
@@ -52,19 +67,20 @@ class Deed:
     def source(self, bale):
         """The bale of all strips of which the deed makes a strip of the bale."""
         check_alike(self, bale)
-        unfinished = bale.mirrored() if self.flips else bale
-        if self.short > 0:
-            unfinished = unfinished + Bale.listed(self.scheme, [self._blanks()])
-        return self.loom().source(unfinished)
-
-    def _blanks(self):
-        """The columns that the deed cuts off."""
-        return self.scheme.BLANK * self.short
+        return self.loom().source(unfinished(bale, self.short, self.flips))
 
     def _finished(self, text):
         """What becomes of a strip that the loom says."""
         kept = text[:len(text) - self.short]
         return mirrored(kept) if self.flips else kept
+
+
+def unfinished(bale, short, flips):
+    """The bale of what a loom must say, so that strips of a bale are made in the end."""
+    kept = bale.mirrored() if flips else bale
+    if short == 0:
+        return kept
+    return kept + Bale.listed(bale.scheme, [bale.scheme.BLANK * short])
 
 
 def written(text):

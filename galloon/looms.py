@@ -98,7 +98,7 @@ class Loom:
     def within(self, other):
         """Does the other loom say all that this one says?"""
         check_alike(self, other)
-        _, goods = combined(_firm(self), _firm(other), FIRST_ONLY)
+        _, goods = combined(firm_of_loom(self), firm_of_loom(other), FIRST_ONLY)
         return not any(goods)
 
     def on(self, bale):
@@ -251,6 +251,11 @@ def named_loom(scheme, steps, ends):
     return Loom(scheme, arcs, [name in ends for name in steps])
 
 
+def firm_of_loom(loom):
+    """The table of a loom as a firm one."""
+    return ([{read + write: after for read, write, after in row} for row in loom.arcs], loom.goods)
+
+
 def _check_arcs(scheme, arcs, goods):
     """Raise BadTable(place) for the first part that is wrong in a table."""
     if not arcs or len(goods) != len(arcs):
@@ -266,11 +271,6 @@ def _arcs_of(rows):
     return [[(letter[0], letter[1], row[letter]) for letter in row] for row in rows]
 
 
-def _firm(loom):
-    """The table of a loom as a firm one."""
-    return ([{read + write: after for read, write, after in row} for row in loom.arcs], loom.goods)
-
-
 def _of_bale(bale):
     """The loom that says each strip of a bale for itself."""
     columns = bale.scheme.columns
@@ -281,7 +281,7 @@ def _of_bale(bale):
 def _combination(first, second, wanted):
     """The loom of what two looms say, as `combined` says."""
     check_alike(first, second)
-    rows, goods = combined(_firm(first), _firm(second), wanted)
+    rows, goods = combined(firm_of_loom(first), firm_of_loom(second), wanted)
     return Loom(first.scheme, _arcs_of(rows), goods)
 
 

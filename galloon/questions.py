@@ -9,7 +9,7 @@ from galloon.tables import first_beyond, first_word
 
 def several(loom):
     """The first strip for which a loom says several, and the first two of these, or None."""
-    strip = _first_parted(loom, {column: column for column in loom.scheme.columns})
+    strip = first_several([loom])
     if strip is None:
         return None
     outs = loom.image(Bale.listed(loom.scheme, [strip]))
@@ -31,7 +31,7 @@ def lost_row(loom, bale, row):
     if not 0 <= row < scheme.rows:
         raise BadRow(row)
     back = ~loom.on(bale)
-    out = _first_parted(back, {column: scheme.spots(column)[row] for column in scheme.columns})
+    out = _first_parted([back], {column: scheme.spots(column)[row] for column in scheme.columns})
     if out is None:
         return None
     befores = back.image(Bale.listed(scheme, [out]))
@@ -79,19 +79,26 @@ def cycle(loom, most):
     return None
 
 
-def _first_parted(loom, marks):
-    """The first strip for which a loom says two strips whose columns have unlike marks, or None.
+def first_several(looms):
+    """The first strip for which some looms of one scheme together say more than one strip, or None."""
+    return _first_parted(looms, {column: column for column in looms[0].scheme.columns})
 
-    Two walks that read the same are followed at once. All pairs to which a strip leads
-    that no earlier strip leads to are kept together, so that the strips come in order.
+
+def _first_parted(looms, marks):
+    """The first strip for which looms say two strips whose columns have unlike marks, or None.
+
+    Two walks that read the same are followed at once, each in any of the looms. All pairs
+    to which a strip leads that no earlier strip leads to are kept together, so that the
+    strips come in order.
     """
-    choices = [by_read(leading) for leading in loom.arcs]
-    seen = {(0, 0, False): True}
-    queue = [("", [(0, 0, False)])]
+    choices, goods, starts = _side_by_side(looms)
+    begun = [(one, other, False) for one in starts for other in starts if one <= other]
+    seen = {pair: True for pair in begun}
+    queue = [("", begun)]
     at = 0
     while at < len(queue):
         strip, pairs = queue[at]
-        if any([apart and loom.goods[one] and loom.goods[other] for one, other, apart in pairs]):
+        if any([apart and goods[one] and goods[other] for one, other, apart in pairs]):
             return strip
         found = _pairs_onward(choices, marks, pairs)
         for read in sorted(found):
@@ -101,6 +108,20 @@ def _first_parted(loom, marks):
                 seen.update({pair: True for pair in fresh})
         at += 1
     return None
+
+
+def _side_by_side(looms):
+    """The steps, the goods and the starts of several looms in one table."""
+    choices = []
+    goods = []
+    starts = []
+    for loom in looms:
+        begin = len(choices)
+        starts.append(begin)
+        for leading in loom.arcs:
+            choices.append(by_read([(read, write, after + begin) for read, write, after in leading]))
+        goods.extend(loom.goods)
+    return choices, goods, starts
 
 
 def _pairs_onward(choices, marks, pairs):

@@ -1,4 +1,4 @@
-"""Checks that hold for every deed that neither cuts nor flips: its loom against plain trying."""
+"""Checks that hold for every deed: its loom against plain trying."""
 
 import random
 
@@ -38,17 +38,29 @@ def made_by(case, deed, most, plain):
     return made
 
 
-def check_deed(case, deed, plain, most=None, seed=1):
+def said_by(case, deed, strip):
+    """The strips that the loom of a deed says for a strip, without what is cut off, mirrored if it flips."""
+    kept = len(strip) - deed.short
+    found = []
+    for text in deed.loom().image(Bale.listed(deed.scheme, [strip])).strips(len(strip)):
+        case.assertEqual(text[kept:], deed.scheme.BLANK * deed.short)
+        found.append(text[:kept][::-1] if deed.flips else text[:kept])
+    return sorted(found)
+
+
+def check_deed(case, deed, plain, most=None, seed=1, frame=(0, False)):
     """All methods of a deed agree with what `plain` tells of all short strips."""
     scheme = deed.scheme
     most = MOST[len(scheme)] if most is None else most
     case.assertIsInstance(deed, Deed)
-    case.assertEqual((deed.short, deed.flips), (0, False))
-    case.assertIs(deed.flips, False)
+    case.assertEqual((deed.short, deed.flips), frame)
+    case.assertIs(deed.flips, frame[1])
     case.assertIsInstance(deed.loom(), Loom)
     case.assertEqual(deed.loom().scheme, scheme)
     check_least_loom(case, deed.loom())
     made = made_by(case, deed, most, plain)
+    for strip in made:
+        case.assertEqual(said_by(case, deed, strip), made[strip])
     rng = random.Random(seed)
     strips = list(made)
     pairs = [(rng.choice(strips), rng.choice(strips)) for _ in range(60)]
@@ -60,7 +72,9 @@ def check_deed(case, deed, plain, most=None, seed=1):
         check_least_bale(case, image)
         check_least_bale(case, source)
         known = {after for before in made if before in bale for after in made[before]}
-        case.assertEqual(members(image, most), [strip for strip in strips if strip in known])
+        # Longer images may come from strips that have not been tried.
+        known = {after for after in known if len(after) <= most - deed.short}
+        case.assertEqual(members(image, most - deed.short), [strip for strip in strips if strip in known])
         known = [before for before in strips if any(after in bale for after in made[before])]
         case.assertEqual(members(source, most), known)
     check_wrong_strips(case, deed)

@@ -117,8 +117,8 @@ class FormTest(unittest.TestCase):
                 if isinstance(node, ast.Constant):
                     self.assertIn(node.value.__class__, (int, str, bool, None.__class__))
                 if isinstance(node, ast.FunctionDef):
-                    names = [decorator.id for decorator in node.decorator_list]
-                    self.assertTrue(len(names) < 2 and set(names) <= DECORATORS, node.name)
+                    names = [ast.unparse(decorator) for decorator in node.decorator_list]
+                    self.assertTrue(len(names) < 2 and set(names) <= DECORATORS | {node.name + ".setter"}, node.name)
                     self.assertFalse(node.name.startswith("__") and node.name not in DOUBLE, node.name)
                 if isinstance(node, ast.Raise) and node.exc is not None:
                     self.assertIsInstance(node.exc, ast.Call)
