@@ -230,6 +230,12 @@ def firm_of(bale):
     return ([_steps_of(bale.scheme, row) for row in bale.rows], bale.goods)
 
 
+def columns_at(bale, at):
+    """The ascending list of the columns that the strips of a bale have at an index."""
+    reached = leap(arcs_of(bale), [0], at)
+    return sorted({column for state in reached for column, _ in arcs_of(bale)[state]})
+
+
 def _check_rows(scheme, rows, goods):
     """Raise BadTable(place) for the first part that is wrong in a table."""
     if not rows or len(goods) != len(rows):

@@ -70,6 +70,50 @@ raises BadPattern(place=2)
 >>> moving = Block.shift(scheme, 1)
 >>> [orphan(block), twins(block), fused(block), undone(moving) == Block.shift(scheme, -1)]
 ['b', ('a', 'b'), ('a', 'b'), True]
+
+>>> from galloon.bales import Bale
+>>> from galloon.sameness import not_returned, same
+>>> from galloon.schemes import Scheme
+>>> from galloon.shapes import Cut, Mirror
+>>> from galloon.workshops import Workshop
+>>> scheme = Scheme(1, 2)
+>>> first = Workshop.of(scheme, Cut(scheme, 1, 0), Mirror(scheme))
+>>> second = Workshop.of(scheme, Mirror(scheme), Cut(scheme, 0, 1))
+>>> [same(first, second, Bale.every(scheme)), same(first, Cut(scheme, 0, 1), Bale.every(scheme)), not_returned(Mirror(scheme), Bale.every(scheme))]
+[None, ('ab', 'a'), 'ab']
+
+>>> from galloon.bales import Bale
+>>> from galloon.folds import fold, symmetric
+>>> from galloon.schemes import Scheme
+>>> scheme = Scheme(1, 2)
+>>> [fold(scheme, 'abbb'), symmetric(Bale.shaped(scheme, 'ab.*'))]
+['bd', 'aba']
+
+>>> from galloon.bales import Bale
+>>> from galloon.cases import Case
+>>> from galloon.halls import Hall, Hidden
+>>> from galloon.masks import Mask
+>>> from galloon.paints import Paint
+>>> from galloon.passes import mask_menu
+>>> from galloon.schemes import Scheme
+>>> scheme = Scheme(1, 2)
+>>> masks = [Mask.every(), Mask.read('(+-)'), Mask.none()]
+>>> case = Case(Hall(scheme, H=Hidden(mask_menu(Paint(scheme, ['10']), masks))))
+>>> case.lay('sheet', Bale.listed(scheme, ['aaa']))
+>>> case.work('sheet', 'H')
+>>> number = case.see('sheet', Bale.showing(scheme, 'a', 1))
+>>> [case.worlds_left(), case.sure_spot('sheet', 0, 1), case.sure_spot('sheet', 0, 2), case.refuting((0,))]
+[[(1,), (2,)], '0', None, [0]]
+
+>>> from galloon.notes import read_deed, read_workshop
+>>> from galloon.schemes import Scheme
+>>> [str(read_workshop(Scheme(1, 2), 'turn -1 ; once 0: ; cut 0 1')), str(read_workshop(Scheme(1, 2), 'keep'))]
+['turn -1 ; once 0: ; cut 0 1', 'keep']
+
+>>> from galloon.notes import read_deed
+>>> from galloon.schemes import Scheme
+>>> read_deed(Scheme(1, 2), 'turn 2')
+raises BadDeed(index=1)
 """
 
 
@@ -93,4 +137,4 @@ class ExamplesTest(unittest.TestCase):
                 except ValueError as error:
                     answer = told(error)
                 self.assertEqual(answer, lines[-1])
-        self.assertGreaterEqual(len(blocks), 10)
+        self.assertEqual(len(blocks), 15)

@@ -70,12 +70,54 @@ blocks: class Block(scheme, left, right, results) inner(strip) around(strip) mir
 blocks: class Block(scheme, left, right, results) __mul__(other)
 gardens: orphan(block) cover(block, strip) twins(block) twin_strips(block) fused(block) undone(block)
 rings: ring_sources(block, strip) how_many_sources(block, strip) barren_ring(block, length) ring_rounds(block, strip)
+shapes: class Mirror(scheme) loom() played(strip) __str__()
+shapes: class Cut(scheme, front, back) loom() played(strip) __str__()
+workshops: class Workshop(scheme, deeds) of(scheme, *deeds) without(place) __len__() __add__(other) loom() played(strip)
+workshops: class Workshop(scheme, deeds) __str__()
+sameness: same(first, second, bale) unsure(deed, bale) lost(deed, bale) unmade(deed, bale, wanted)
+sameness: not_returned(deed, bale) idle(workshop, bale) swappable(workshop, bale) fewest(workshop, bale)
+folds: folded_scheme(scheme) fold(scheme, strip) unfold(scheme, strip) fold_bale(bale) folding_onto(bale, folded)
+folds: symmetric(bale)
+halls: class Hidden(deeds) __len__()
+halls: class Hall(scheme, **tools) put(letter, tool) remove(letter) change_limit(limit) letters() hidden_letters() worlds()
+halls: class Hall(scheme, **tools) workshop(plan, world) __getitem__(letter) __setitem__(letter, tool)
+halls: class Hall(scheme, **tools) __contains__(letter) __len__()
+searches: least_plan(hall, goal, bale, most) plan_between(hall, before, after, most, *, surely)
+searches: undoing_plan(hall, plan, bale, most) swaps(hall, bale) tool_classes(hall, letter, bale)
+telling: parting(hall, plan, one, two, bale) telling(hall, plan, worlds, bale) mistaken(hall, plan, one, two, bale)
+cases: class Case(hall) lay(name, bale) work(name, plan) see(name, bale) recall(name, bale) among(letter, indexes)
+cases: class Case(hall) alike(one, two, *, unlike) can(plan, before, after, *, never) withdraw(number) facts()
+cases: class Case(hall) worlds_left() indexes(letter) sheets() steps(name) now(name) origin(name) origin_of(name, bale)
+cases: class Case(hall) sure_spot(name, row, at, *, from_end) verdict(name, bale) loss(name) refuting(world)
+cases: class Case(hall) grounds(letter, index) undo() redo() twin() __len__()
+attempts: attempt(case, requests)
+notes: read_deed(scheme, text) read_workshop(scheme, text)
+lines: drawn(scheme, strip, *, signs) hall_lines(hall) case_lines(case)
+plain: plain_same(first, second, bale, most) plain_lost(deed, bale, most) plain_images(deed, bale, most)
+plain: plain_now(case, name, most)
 """
 KINDS = {
     "passes": {"Pass": "pass", "FreePass": "free", "Stamp": "stamp", "Border": "border", "Gate": "gate", "Turn": "turn"},
     "mends": {"Once": "once", "Sweep": "sweep", "Rest": "rest"},
     "prints": {"Overprint": "print", "FreePrint": "letters", "Recast": "recast"},
+    "shapes": {"Mirror": "mirror", "Cut": "cut"},
+    "workshops": {"Workshop": "workshop"},
 }
+STARS = {inspect.Parameter.VAR_POSITIONAL: "*", inspect.Parameter.VAR_KEYWORD: "**"}
+# For each class its read-only properties, and those that can be assigned.
+PROPERTIES = {
+    ("rules", "Rule"): (("drift", "monotone"), ()), ("halls", "Hall"): ((), ("limit",)),
+    ("cases", "Case"): (("many", "past", "future"), ()),
+}
+CLASS_VALUES = {
+    ("schemes", "Scheme"): {"MOST": 9, "BLANK": "a"}, ("looms", "Loom"): {"MOST_OUTS": 200}, ("fonts", "Font"): {"MOST": 6},
+    ("blocks", "Block"): {"MOST": 729}, ("workshops", "Workshop"): {"MOST": 8}, ("halls", "Hidden"): {"MOST": 12},
+}
+MODULES = (
+    "errors", "schemes", "strips", "bales", "looms", "questions", "closed", "weights", "paints", "masks", "deeds", "passes", "rules",
+    "mends", "orders", "fonts", "readings", "faces", "prints", "endless", "blocks", "gardens", "rings", "shapes", "workshops",
+    "sameness", "folds", "halls", "searches", "telling", "cases", "attempts", "notes", "lines", "plain",
+)
 
 
 def listed():
@@ -99,6 +141,9 @@ def arguments(call, own):
     for parameter in list(inspect.signature(call).parameters.values())[own:]:
         if parameter.kind == parameter.KEYWORD_ONLY and "*" not in parts:
             parts.append("*")
+        if parameter.kind in STARS:
+            parts.append(STARS[parameter.kind] + parameter.name)
+            continue
         parts.append(parameter.name)
         # Only what is passed by keyword may be left out.
         assert (parameter.default is parameter.empty) == (parameter.kind != parameter.KEYWORD_ONLY)
@@ -137,7 +182,20 @@ class InterfaceTest(unittest.TestCase):
                 self.assertEqual(issubclass(made, Pass), name in ("Pass", "FreePass"))
 
     def test_properties(self):
-        rules = importlib.import_module("galloon.rules")
-        for name in ("drift", "monotone"):
-            self.assertIsInstance(vars(rules.Rule)[name], property)
-            self.assertIsNone(vars(rules.Rule)[name].fset)
+        for (module, owner), (read_only, settable) in PROPERTIES.items():
+            made = vars(getattr(importlib.import_module("galloon." + module), owner))
+            for name in read_only + settable:
+                self.assertIsInstance(made[name], property)
+                self.assertEqual(made[name].fset is None, name in read_only)
+            found = {name for name in made if isinstance(made[name], property)}
+            self.assertEqual(found, set(read_only + settable))
+
+    def test_class_values(self):
+        for (module, owner), told in CLASS_VALUES.items():
+            made = vars(getattr(importlib.import_module("galloon." + module), owner))
+            self.assertEqual({name: made[name] for name in told}, told)
+
+    def test_all_modules_are_asked_about(self):
+        self.assertEqual({module for module, _, _, _ in listed()} | {"errors"}, set(MODULES))
+        for module in MODULES:
+            self.assertEqual(importlib.import_module("galloon." + module).__name__, "galloon." + module)

@@ -150,6 +150,7 @@ class OperatorsTest(unittest.TestCase):
         names = {node.name for node in self.reached}
         self.assertLessEqual({"__contains__", "__mul__", "_product", "by_read", "least", "determined"}, names)
         self.assertLessEqual({"drift", "monotone", "_grown_looks", "_apart", "column_at", "inner", "_least_form"}, names)
+        self.assertLessEqual({"flattened", "limit", "many", "past", "future"}, names)
 
     def test_no_method_is_called_by_the_name_of_an_attribute(self):
         stored = stored_attributes(self.files)
