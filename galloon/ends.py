@@ -5,24 +5,68 @@ column from the front, one from the back, and the next node. A node closes strin
 most one column: such a string may stand in the middle.
 """
 
+from galloon.bales import firm_of
+from galloon.looms import firm_of_loom
+from galloon.tables import backwards, loosened
+
 # The place of a reading that has got lost.
 LOST = (-1, -1)
 
 
-class Ends:
-    """A firm table `(rows, goods)` (module tables) that is read from both ends at once.
+class Span:
+    """A bale whose strips are read from both ends at once.
 
-    A place is a pair of numbers: the state that is reached from the front, and a set of
-    states from which what has been read at the back leads to a good state.
+    A place is a pair of states: the one that is reached from the front, and one from
+    which what has been read at the back leads to a good state. There may be several such
+    states for one strip, so there are several places.
     """
 
-    def __init__(self, firm):
-        rows, goods = firm
-        backs, sets = _read_backwards(rows, goods)
+    def __init__(self, bale):
+        rows, goods = firm_of(bale)
         self._rows = rows
-        self._backs = backs
-        self._sets = [{state: True for state in states} for states in sets]
-        # For each state the states that it leads to, and which places are not lost.
+        self._into = backwards(loosened(rows))
+        self._goods = [state for state, good in enumerate(goods) if good]
+
+    def begun(self):
+        """The places at which nothing has been read."""
+        return [(0, end) for end in self._goods]
+
+    def backs(self, place):
+        """The columns that may come next at the back, each with a place that it leads to."""
+        return [(column, (place[0], before)) for column, before in self._into[place[1]]]
+
+    def ways(self, place):
+        """One more column at the front, one at the back, and a place to which they lead."""
+        row = self._rows[place[0]]
+        return [(front, back, (row[front], before)) for front in row for back, before in self._into[place[1]]]
+
+    def meets(self, place):
+        """May the front and the back meet here?"""
+        return place[0] == place[1]
+
+    def middles(self, place):
+        """The columns that may stand between the front and the back."""
+        row = self._rows[place[0]]
+        return [column for column in row if row[column] == place[1]]
+
+
+class Ends:
+    """A loom whose pairs of strips are read from both ends at once.
+
+    A place is a pair of numbers: the state that is reached from the front, and a set of
+    states, all those from which what has been read at the back leads to a good state. So
+    there is just one place for each pair of strips.
+    """
+
+    def __init__(self, loom):
+        rows, goods = firm_of_loom(loom)
+        self._rows = rows
+        self._into = backwards(loosened(rows))
+        self._sets = []
+        self._numbers = {}
+        self._number_of([state for state, good in enumerate(goods) if good])
+        # What has been found so far: steps at the back, what a state leads to, and which places are not lost.
+        self._backs = {}
         self._reached = {}
         self._hopes = {}
 
@@ -32,29 +76,59 @@ class Ends:
 
     def fronts(self, place):
         """The letters that may come next at the front, each with the state it leads to."""
-        return self._rows[place[0]] if place[0] >= 0 else {}
+        return self._rows[place[0]] if place != LOST else {}
 
     def backs(self, place):
         """The letters that may come next at the back, each with the number of the set it leads to."""
-        return self._backs[place[1]] if place[1] >= 0 else {}
+        if place == LOST:
+            return {}
+        if place[1] not in self._backs:
+            self._backs[place[1]] = self._steps_back(place[1])
+        return self._backs[place[1]]
 
     def hoped(self, state, number):
         """The place of a state and a set, or LOST if nothing leads from the state into the set."""
-        if state < 0 or number < 0:
-            return LOST
         if (state, number) not in self._hopes:
             reached = self._reach(state)
             self._hopes[(state, number)] = any([other in reached for other in list(self._sets[number])])
         return (state, number) if self._hopes[(state, number)] else LOST
 
+    def behind(self, place, letter):
+        """The place after one more letter at the back."""
+        steps = self.backs(place)
+        return self.hoped(place[0], steps[letter]) if letter in steps else LOST
+
+    def ways(self, place):
+        """One more letter at the front, one at the back, and the place to which they lead, if it is not LOST."""
+        fronts = self.fronts(place)
+        backs = self.backs(place)
+        found = [(front, back, self.hoped(fronts[front], backs[back])) for front in fronts for back in backs]
+        return [way for way in found if way[2] != LOST]
+
     def meets(self, place):
         """May the front and the back meet here?"""
-        return place[0] >= 0 and place[0] in self._sets[place[1]]
+        return place != LOST and place[0] in self._sets[place[1]]
 
-    def meets_over(self, place, letter):
-        """May one more letter stand between the front and the back?"""
-        after = self.fronts(place).get(letter, -1)
-        return after >= 0 and after in self._sets[place[1]]
+    def middles(self, place):
+        """The letters that may stand between the front and the back."""
+        fronts = self.fronts(place)
+        return [letter for letter in fronts if fronts[letter] in self._sets[place[1]]]
+
+    def _number_of(self, states):
+        """The number of a set of states."""
+        key = tuple(sorted(states))
+        if key not in self._numbers:
+            self._numbers[key] = len(self._sets)
+            self._sets.append({state: True for state in states})
+        return self._numbers[key]
+
+    def _steps_back(self, number):
+        """The letters that lead into a set, each with the number of the set from which it does."""
+        found = {}
+        for state in self._sets[number]:
+            for letter, before in self._into[state]:
+                found.setdefault(letter, []).append(before)
+        return {letter: self._number_of(found[letter]) for letter in found}
 
     def _reach(self, state):
         """A dict of the states to which a state leads."""
@@ -68,14 +142,6 @@ class Ends:
                 waiting.extend(list(fresh))
             self._reached[state] = found
         return self._reached[state]
-
-
-def steps_inwards(ends, place):
-    """The ways of a place: one more letter at the front, one at the back, and the place that is reached."""
-    fronts = ends.fronts(place)
-    backs = ends.backs(place)
-    found = [(front, back, ends.hoped(fronts[front], backs[back])) for front in fronts for back in backs]
-    return [way for way in found if way[2] != LOST]
 
 
 def first_from_ends(graph, starts):
@@ -103,34 +169,6 @@ def first_from_ends(graph, starts):
         seen.update(fresh)
         layers.append(list(fresh))
     return None
-
-
-def _read_backwards(rows, goods):
-    """The steps and the sets of a firm table that is read from its good states backwards.
-
-    A set has the states from which the letters that have been read lead to a good state.
-    """
-    into = [[] for row in rows]
-    for state, row in enumerate(rows):
-        for letter in row:
-            into[row[letter]].append((letter, state))
-    sets = [tuple([state for state, good in enumerate(goods) if good])]
-    numbers = {sets[0]: 0}
-    backs = []
-    while len(backs) < len(sets):
-        found = {}
-        for state in sets[len(backs)]:
-            for letter, before in into[state]:
-                found.setdefault(letter, []).append(before)
-        row = {}
-        for letter in found:
-            states = tuple(sorted(found[letter]))
-            if states not in numbers:
-                numbers[states] = len(sets)
-                sets.append(states)
-            row[letter] = numbers[states]
-        backs.append(row)
-    return backs, sets
 
 
 def _live_layers(layers, ways, ends):

@@ -1,7 +1,7 @@
 """Folds: a strip of one row becomes one of two rows, and strips that are read from both ends."""
 
-from galloon.bales import Bale, firm_of
-from galloon.ends import Ends, first_from_ends, steps_inwards
+from galloon.bales import Bale, bale_of, firm_of
+from galloon.ends import Span, first_from_ends
 from galloon.errors import BadScheme, NoFold, UnlikeSchemes
 from galloon.schemes import Scheme
 from galloon.strips import mirrored
@@ -34,19 +34,20 @@ def unfold(scheme, strip):
 def fold_bale(bale):
     """The bale of the folds of the strips of a bale."""
     folded = folded_scheme(bale.scheme)
-    ends = Ends(firm_of(bale))
-    nodes = [ends.begun()]
-    numbers = {nodes[0]: 0}
-    rows = []
-    while len(rows) < len(nodes):
-        found = {}
-        for front, back, after in steps_inwards(ends, nodes[len(rows)]):
-            found[fold(bale.scheme, front + back)] = after
+    graph = Folding(bale, Bale.every(folded))
+    nodes = list(graph.starts())
+    starts = list(range(len(nodes)))
+    numbers = {node: number for number, node in enumerate(nodes)}
+    arcs = []
+    while len(arcs) < len(nodes):
+        row = []
+        for front, back, after in graph.ways(nodes[len(arcs)]):
             if after not in numbers:
                 numbers[after] = len(nodes)
                 nodes.append(after)
-        rows.append([numbers[found[column]] if column in found else -1 for column in folded.columns])
-    return Bale(folded, rows, [ends.meets(node) for node in nodes])
+            row.append((graph.folded_column(front, back), numbers[after]))
+        arcs.append(row)
+    return bale_of(folded, arcs, starts, [graph.closings(node) != [] for node in nodes])
 
 
 def folding_onto(bale, folded):
@@ -54,61 +55,71 @@ def folding_onto(bale, folded):
     if folded.scheme != folded_scheme(bale.scheme):
         raise UnlikeSchemes()
     graph = Folding(bale, folded)
-    return first_from_ends(graph, {graph.begun(): ""})
+    return first_from_ends(graph, graph.starts())
 
 
 def symmetric(bale):
     """The first strip of a bale that is equal to its mirrored strip, or None."""
     graph = Symmetry(bale)
-    return first_from_ends(graph, {graph.begun(): ""})
+    return first_from_ends(graph, graph.starts())
 
 
 class Folding:
-    """A bale that is read from both ends, and a bale of folds that is read with it."""
+    """A bale whose strips are read from both ends, and a bale of folds that is read with it.
+
+    A node has a place of the bale (module ends), and the state of the fold.
+    """
 
     def __init__(self, bale, folded):
         rows, goods = firm_of(folded)
+        columns = bale.scheme.columns
         self.scheme = bale.scheme
-        self._ends = Ends(firm_of(bale))
+        self._span = Span(bale)
         self._rows = rows
         self._goods = goods
+        self._columns = {front + back: fold(bale.scheme, front + back) for front in columns for back in columns}
 
-    def begun(self):
-        """The node at which nothing has been read."""
-        return (self._ends.begun(), 0)
+    def starts(self):
+        """The nodes at which nothing has been read; nothing stands behind a strip."""
+        return {(place, 0): "" for place in self._span.begun()}
+
+    def folded_column(self, front, back):
+        """The column of the fold where these two columns come to lie on each other."""
+        return self._columns[front + back]
 
     def ways(self, node):
         """The ways of a node."""
         place, state = node
+        row = self._rows[state]
         found = []
-        for front, back, after in steps_inwards(self._ends, place):
-            onward = self._rows[state].get(fold(self.scheme, front + back), -1)
-            if onward >= 0:
-                found.append((front, back, (after, onward)))
+        for front, back, after in self._span.ways(place):
+            column = self.folded_column(front, back)
+            if column in row:
+                found.append((front, back, (after, row[column])))
         return found
 
     def closings(self, node):
         """The strings in the middle with which the strip and its fold belong to the bales."""
         place, state = node
-        return [""] if self._ends.meets(place) and self._goods[state] else []
+        return [""] if self._span.meets(place) and self._goods[state] else []
 
 
 class Symmetry:
-    """A bale of which the same is read from both ends."""
+    """A bale of whose strips the same is read from both ends. A node is a place of the bale (module ends)."""
 
     def __init__(self, bale):
         self.scheme = bale.scheme
-        self._ends = Ends(firm_of(bale))
+        self._span = Span(bale)
 
-    def begun(self):
-        """The node at which nothing has been read."""
-        return self._ends.begun()
+    def starts(self):
+        """The nodes at which nothing has been read; nothing stands behind a strip."""
+        return {place: "" for place in self._span.begun()}
 
     def ways(self, node):
         """The ways of a node."""
-        return [(front, back, after) for front, back, after in steps_inwards(self._ends, node) if front == back]
+        return [way for way in self._span.ways(node) if way[0] == way[1]]
 
     def closings(self, node):
         """The strings in the middle with which the strip belongs to the bale."""
-        found = [""] if self._ends.meets(node) else []
-        return found + [column for column in self.scheme.columns if self._ends.meets_over(node, column)]
+        found = [""] if self._span.meets(node) else []
+        return found + self._span.middles(node)

@@ -32,7 +32,7 @@ def orphan(block):
         arcs[numbers[window[:-1]]].append(arc)
         # State 0 is the start: a strip may begin behind any columns.
         arcs[0].append(arc)
-    return first_beyond(firm_of(Bale.every(block.scheme)), (arcs, [True] * len(arcs)))
+    return first_beyond(firm_of(Bale.every(block.scheme)), (arcs, [True] * len(arcs), [0]))
 
 
 def cover(block, strip):

@@ -9,7 +9,7 @@ from galloon.tables import first_beyond, first_word
 
 def several(loom):
     """The first strip for which a loom says several, and the first two of these, or None."""
-    strip = first_several([loom])
+    strip = first_several(loom.scheme, [(loom.arcs, loom.goods, [0])])
     if strip is None:
         return None
     outs = loom.image(Bale.listed(loom.scheme, [strip]))
@@ -31,7 +31,8 @@ def lost_row(loom, bale, row):
     if not 0 <= row < scheme.rows:
         raise BadRow(row)
     back = ~loom.on(bale)
-    out = _first_parted([back], {column: scheme.spots(column)[row] for column in scheme.columns})
+    spots = {column: scheme.spots(column)[row] for column in scheme.columns}
+    out = _first_parted([(back.arcs, back.goods, [0])], spots)
     if out is None:
         return None
     befores = back.image(Bale.listed(scheme, [out]))
@@ -44,7 +45,7 @@ def left_out(loom, bale):
     """The first strip of a bale for which a loom says nothing, or None."""
     check_alike(loom, bale)
     arcs = [[(read, after) for read, _, after in leading] for leading in loom.arcs]
-    return first_beyond(firm_of(bale), (arcs, loom.goods))
+    return first_beyond(firm_of(bale), (arcs, loom.goods, [0]))
 
 
 def unreached(loom, bale, wanted):
@@ -79,19 +80,23 @@ def cycle(loom, most):
     return None
 
 
-def first_several(looms):
-    """The first strip for which some looms of one scheme together say more than one strip, or None."""
-    return _first_parted(looms, {column: column for column in looms[0].scheme.columns})
+def first_several(scheme, tables):
+    """The first strip for which some tables together say more than one strip, or None.
 
-
-def _first_parted(looms, marks):
-    """The first strip for which looms say two strips whose columns have unlike marks, or None.
-
-    Two walks that read the same are followed at once, each in any of the looms. All pairs
-    to which a strip leads that no earlier strip leads to are kept together, so that the
-    strips come in order.
+    Each table has the arcs and the goods of a loom, which need not be least ones, and the
+    list of its starts.
     """
-    choices, goods, starts = _side_by_side(looms)
+    return _first_parted(tables, {column: column for column in scheme.columns})
+
+
+def _first_parted(tables, marks):
+    """The first strip for which tables say two strips whose columns have unlike marks, or None.
+
+    Two walks that read the same are followed at once, each in any of the tables. All
+    pairs to which a strip leads that no earlier strip leads to are kept together, so that
+    the strips come in order.
+    """
+    choices, goods, starts = _side_by_side(tables)
     begun = [(one, other, False) for one in starts for other in starts if one <= other]
     seen = {pair: True for pair in begun}
     queue = [("", begun)]
@@ -110,17 +115,17 @@ def _first_parted(looms, marks):
     return None
 
 
-def _side_by_side(looms):
-    """The steps, the goods and the starts of several looms in one table."""
+def _side_by_side(tables):
+    """The steps, the goods and the starts of several tables in one."""
     choices = []
     goods = []
     starts = []
-    for loom in looms:
-        begin = len(choices)
-        starts.append(begin)
-        for leading in loom.arcs:
-            choices.append(by_read([(read, write, after + begin) for read, write, after in leading]))
-        goods.extend(loom.goods)
+    for arcs, marks, begun in tables:
+        many = len(choices)
+        starts.extend([state + many for state in begun])
+        for leading in arcs:
+            choices.append(by_read([(read, write, after + many) for read, write, after in leading]))
+        goods.extend(marks)
     return choices, goods, starts
 
 

@@ -1,11 +1,11 @@
 """Questions to deeds: do two make the same, is something unsure, lost, unmade or not returned?"""
 
-from galloon.bales import Bale, differing
-from galloon.ends import LOST, Ends, first_from_ends, steps_inwards
+from galloon.bales import Bale, differing, firm_of, is_finite
+from galloon.ends import LOST, Ends, Span, first_from_ends
 from galloon.errors import TooMany
-from galloon.looms import firm_of_loom
 from galloon.questions import first_several, parted, several
 from galloon.schemes import check_alike
+from galloon.tables import backwards, first_beyond, leap
 from galloon.workshops import Workshop
 
 MOST_DEEDS = 5
@@ -53,7 +53,7 @@ def unmade(deed, bale, wanted):
     """The first of the wanted strips that a deed makes of no strip of a bale, or None."""
     check_alike(deed, bale)
     check_alike(deed, wanted)
-    return (wanted - deed.image(bale)).first()
+    return first_beyond(firm_of(wanted), _finished_table(deed.woven_on(bale), deed.short, deed.flips))
 
 
 def not_returned(deed, bale):
@@ -105,7 +105,8 @@ def lists_by_length(many):
 
 def first_shared(looms, short, flips):
     """The first finished strip that looms with this frame together make of several strips, or None."""
-    out = first_several([~(loom.mirrored() if flips else loom) for loom in looms])
+    tables = [_read_from_behind(loom) if flips else _read_back(loom) for loom in looms]
+    out = first_several(looms[0].scheme, tables)
     if out is None:
         return None
     # What is mirrored has the blanks in front.
@@ -128,6 +129,34 @@ def first_strips(bale):
     return found
 
 
+def _finished_table(loom, short, flips):
+    """A loose table (module tables), with its starts, of the finished strips that a loom with this frame makes."""
+    arcs = [[(write, after) for _, write, after in row] for row in loom.arcs]
+    back = backwards(arcs)
+    # What is cut off stands between these states and the good ones.
+    ends = leap(back, [state for state, good in enumerate(loom.goods) if good], short)
+    if flips:
+        return (back, [state == 0 for state in range(len(loom))], ends)
+    lasting = set(ends)
+    return (arcs, [state in lasting for state in range(len(loom))], [0])
+
+
+def _read_back(loom):
+    """The table of the inverse of a loom (module questions)."""
+    arcs = [[(write, read, after) for read, write, after in row] for row in loom.arcs]
+    return (arcs, loom.goods, [0])
+
+
+def _read_from_behind(loom):
+    """The table of the mirrored inverse of a loom (module questions)."""
+    arcs = [[] for _ in range(len(loom))]
+    for state, row in enumerate(loom.arcs):
+        for read, write, after in row:
+            arcs[after].append((write, read, state))
+    starts = [state for state, good in enumerate(loom.goods) if good]
+    return (arcs, [state == 0 for state in range(len(loom))], starts)
+
+
 def _first_tried(first, second, bale):
     """The first short strip of a bale of which two deeds make unlike strips, or None.
 
@@ -148,68 +177,75 @@ def _first_parted(first, second, bale):
     if first.short != second.short:
         every = Bale.every(bale.scheme)
         return ((first.source(every) | second.source(every)) & bale).first()
-    one = first.woven_on(bale)
-    other = second.woven_on(bale)
     if first.flips != second.flips:
-        graph = Facing(other, one) if first.flips else Facing(one, other)
-        return first_from_ends(graph, graph.starts(first.short))
-    apart = parted(one, other, bale)
+        straight = second if first.flips else first
+        flipping = first if first.flips else second
+        graph = Facing(straight, flipping, bale)
+        return first_from_ends(graph, graph.starts())
+    apart = parted(first.woven_on(bale), second.woven_on(bale), bale)
     return None if apart is None else apart[0]
 
 
 class Facing:
-    """Two looms, of which the second one says mirrored strips, read from both ends at once.
+    """A bale and the looms of two deeds, of which only the second one flips, read from both ends at once.
 
-    A node has the places of both (module ends). Where a node closes a string, just one
-    of the two makes some strip of what has been read.
+    A node has the places of both looms and of the bale (module ends). Where a node closes
+    a string, just one of the two makes some strip of what has been read.
     """
 
-    def __init__(self, straight, flipping):
-        self.scheme = straight.scheme
-        self._straight = Ends(firm_of_loom(straight))
-        self._flipping = Ends(firm_of_loom(flipping))
+    def __init__(self, straight, flipping, bale):
+        self.scheme = bale.scheme
+        self._span = Span(bale)
+        # Looms may be much smaller for few strips than for all; for many strips the sets of their states may be many.
+        few = is_finite(bale)
+        self._straight = Ends(straight.woven_on(bale) if few else straight.loom())
+        self._flipping = Ends(flipping.woven_on(bale) if few else flipping.loom())
+        self._short = straight.short
 
-    def starts(self, short):
-        """For each node that so many columns behind the strip lead to the first such columns.
+    def starts(self):
+        """For each node that the columns behind the strip lead to the first such columns.
 
         Blanks are written for these columns, which are cut off; they are not mirrored.
         """
-        found = {(self._straight.begun(), self._flipping.begun()): ""}
-        for _ in range(short):
+        found = {(self._straight.begun(), self._flipping.begun(), place): "" for place in self._span.begun()}
+        for _ in range(self._short):
             longer = {}
-            for one, other in found:
-                for column in self.scheme.columns:
+            for one, other, place in found:
+                for column, before in self._span.backs(place):
                     letter = column + self.scheme.BLANK
-                    node = (_back(self._straight, one, letter), _back(self._flipping, other, letter))
-                    text = column + found[(one, other)]
-                    if node != (LOST, LOST):
+                    node = (self._straight.behind(one, letter), self._flipping.behind(other, letter), before)
+                    text = column + found[(one, other, place)]
+                    if node[:2] != (LOST, LOST):
                         longer[node] = min(text, longer.get(node, text))
             found = longer
         return found
 
     def ways(self, node):
         """The ways of a node; what one loom writes in front, the other one writes at the back."""
-        one, other = node
-        found = {}
-        for front, back, after in steps_inwards(self._straight, one):
-            found[front + back] = (after, LOST)
-        for front, back, after in steps_inwards(self._flipping, other):
+        one, other, place = node
+        both = {}
+        for front, back, after in self._straight.ways(one):
+            both[front + back] = (after, LOST)
+        for front, back, after in self._flipping.ways(other):
             letters = front[0] + back[1] + back[0] + front[1]
-            found[letters] = (found.get(letters, (LOST, LOST))[0], after)
-        return list({(letters[0], letters[2], found[letters]): True for letters in found})
+            both[letters] = (both.get(letters, (LOST, LOST))[0], after)
+        reached = {}
+        for letters in both:
+            reached.setdefault(letters[0] + letters[2], {})[both[letters]] = True
+        found = []
+        for front, back, onward in self._span.ways(place):
+            found.extend([(front, back, (after, beyond, onward)) for after, beyond in reached.get(front + back, {})])
+        return found
 
     def closings(self, node):
         """The strings in the middle with which one of the looms makes something, and the other one does not."""
-        one, other = node
-        found = [""] if self._straight.meets(one) != self._flipping.meets(other) else []
-        straight = self._straight.fronts(one)
-        flipping = self._flipping.fronts(other)
-        for letter in {**straight, **flipping}:
-            if self._straight.meets_over(one, letter) != self._flipping.meets_over(other, letter):
-                found.append(letter[0])
-        return found
-
-
-def _back(ends, place, letter):
-    """The place after one more letter at the back."""
-    return ends.hoped(place[0], ends.backs(place).get(letter, -1))
+        one, other, place = node
+        found = []
+        if self._span.meets(place) and self._straight.meets(one) != self._flipping.meets(other):
+            found.append("")
+        straight = self._straight.middles(one)
+        flipping = self._flipping.middles(other)
+        apart = [letter for letter in straight if letter not in flipping]
+        apart = apart + [letter for letter in flipping if letter not in straight]
+        columns = self._span.middles(place)
+        return found + [letter[0] for letter in apart if letter[0] in columns]

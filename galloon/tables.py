@@ -160,13 +160,14 @@ def _distances(arcs, goods):
 def first_beyond(firm, loose):
     """The first word that a firm table `(rows, goods)` accepts and a loose one does not, or None.
 
-    Both are read at once, the loose one by sets of states. The search ends at the first
-    such word, however many sets there are behind it.
+    The loose table is passed as `(arcs, goods, starts)`. Both are read at once, the loose
+    one by sets of states. The search ends at the first such word, however many sets there
+    are behind it.
     """
     rows, goods = firm
-    arcs, marks = loose
+    arcs, marks, starts = loose
     live = live_states(arcs, marks)
-    queue = [(0, (0,))]
+    queue = [(0, tuple(starts))]
     words = {queue[0]: ""}
     at = 0
     while at < len(queue):

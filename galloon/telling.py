@@ -70,16 +70,15 @@ def _first_telling(makers, bale):
     for maker in makers:
         asked = asked & maker.source(every)
     looms = [maker.woven_on(asked) for maker in makers]
-    # One table of all strips of which some two make the same. Its state 0 is the start of each of these pairs.
-    arcs = [[]]
-    goods = [False]
+    # One table of all strips of which some two make the same.
+    arcs = []
+    goods = []
+    starts = []
     for at, loom in enumerate(looms):
         for other in looms[:at]:
             both = loom & other
             begin = len(arcs)
-            rows = [[(read, after + begin) for read, _, after in row] for row in both.arcs]
-            arcs[0].extend(rows[0])
-            goods[0] = goods[0] or both.goods[0]
-            arcs.extend(rows)
+            starts.append(begin)
+            arcs.extend([[(read, after + begin) for read, _, after in row] for row in both.arcs])
             goods.extend(both.goods)
-    return first_beyond(firm_of(asked), (arcs, goods))
+    return first_beyond(firm_of(asked), (arcs, goods, starts))
