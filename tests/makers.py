@@ -80,8 +80,17 @@ def random_bale(rng, scheme):
 
 
 def random_hidden(rng, scheme, most=4, kinds=PLAIN_KINDS):
-    """A hidden deed whose deeds neither cut nor flip."""
-    return Hidden([random_deed(rng, scheme, kinds) for _ in range(rng.randint(1, most))])
+    """A hidden deed whose deeds all have one frame: some flip, some cut one column off."""
+    frame = rng.randrange(5)
+    return Hidden([framed(rng, random_deed(rng, scheme, kinds), frame) for _ in range(rng.randint(1, most))])
+
+
+def framed(rng, deed, frame):
+    """A deed with a mirror, a cut or neither before it or behind it."""
+    front = rng.randrange(2)
+    extra = {1: Mirror(deed.scheme), 2: Cut(deed.scheme, front, 1 - front)}
+    deeds = [deed, extra[frame]] if frame in extra else []
+    return Workshop(deed.scheme, rng.sample(deeds, 2)) if deeds else deed
 
 
 def random_hall(rng, scheme, kinds=ALL_KINDS, tools=3, hidden=0.5, most=3):
