@@ -230,25 +230,6 @@ def firm_of(bale):
     return ([_steps_of(bale.scheme, row) for row in bale.rows], bale.goods)
 
 
-def is_finite(bale):
-    """Has a bale finitely many strips? If so, its table has no round, so all states can be taken away in turn."""
-    into = [0] * len(bale.rows)
-    for row in bale.rows:
-        for after in row:
-            if after >= 0:
-                into[after] += 1
-    waiting = [0] if into[0] == 0 else []
-    gone = 0
-    while waiting:
-        gone += 1
-        for after in bale.rows[waiting.pop()]:
-            if after >= 0:
-                into[after] -= 1
-                if into[after] == 0:
-                    waiting.append(after)
-    return gone == len(bale.rows)
-
-
 def columns_at(bale, at):
     """The ascending list of the columns that the strips of a bale have at an index."""
     reached = leap(arcs_of(bale), [0], at)

@@ -1,11 +1,11 @@
 """Questions to deeds: do two make the same, is something unsure, lost, unmade or not returned?"""
 
-from galloon.bales import Bale, differing, firm_of, is_finite
+from galloon.bales import Bale, differing, firm_of
 from galloon.ends import LOST, Ends, Span, first_from_ends
 from galloon.errors import TooMany
 from galloon.questions import first_several, parted, several
 from galloon.schemes import check_alike
-from galloon.tables import backwards, first_beyond, leap
+from galloon.tables import backwards, first_beyond, is_tame_backwards, leap
 from galloon.workshops import Workshop
 
 MOST_DEEDS = 5
@@ -196,10 +196,11 @@ class Facing:
     def __init__(self, straight, flipping, bale):
         self.scheme = bale.scheme
         self._span = Span(bale)
-        # Looms may be much smaller for few strips than for all; for many strips the sets of their states may be many.
-        few = is_finite(bale)
-        self._straight = Ends(straight.woven_on(bale) if few else straight.loom())
-        self._flipping = Ends(flipping.woven_on(bale) if few else flipping.loom())
+        # Looms may be much smaller for the strips of a bale, but not if the bale itself is hard to read backwards.
+        rows, goods = firm_of(bale)
+        tame = is_tame_backwards(rows, goods)
+        self._straight = Ends(straight.woven_on(bale) if tame else straight.loom())
+        self._flipping = Ends(flipping.woven_on(bale) if tame else flipping.loom())
         self._short = straight.short
 
     def starts(self):

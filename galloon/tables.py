@@ -85,6 +85,11 @@ def determined(arcs, starts, goods):
         most = most * 4
 
 
+def is_tame_backwards(rows, goods):
+    """Are there not very many sets of states if a firm table is read from its good states to its start?"""
+    return _turned_round(loosened(rows), [0], goods, FIRST_SETS) is not None
+
+
 def _turned_round(arcs, starts, goods, most):
     """The firm table of a loose one that is read from its good states to its starts."""
     ends = [state for state, good in enumerate(goods) if good]

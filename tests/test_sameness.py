@@ -77,6 +77,21 @@ class SameTest(Checked):
                 found += known is not None
         self.assertGreater(found, 80)
 
+    def test_one_flips_and_the_bale_is_hard_to_read_backwards(self):
+        # The column that must be b stands 14 places behind the first one: backwards, all sets of places come.
+        bale = Bale.shaped(ONE, "..*") & Bale.showing(ONE, "b", 14) & ~Bale.shaped(ONE, "a*b")
+        rng = random.Random(1304)
+        table = [[rng.randrange(20) for _ in "ab"] for _ in range(20)]
+        wild = Bale(ONE, table, [at == 7 for at in range(20)])
+        still = Workshop.of(ONE, FLAT, Cut(ONE, 1, 1))
+        for asked in (bale, wild, bale & wild):
+            self.assertIsNone(same(still, Workshop.of(ONE, still, FLIP), asked))
+            first = asked.first()
+            found = same(Workshop.of(ONE, Gate(ONE, "a*b.*")), Workshop.of(ONE, FLIP, FLIP, FLIP), asked)
+            self.assertTrue(found is not None and found[0] in asked and len(found[0]) >= len(first))
+            plain = next(strip for strip in asked.strips(60) if strip != strip[::-1] or "b" not in strip)
+            self.assertEqual(found[0], plain)
+
     def test_the_middle_column_is_read_and_not_written(self):
         for pattern in (".....", "......", ".......+", "a.b.a"):
             bale = Bale.shaped(ONE, pattern)
