@@ -232,8 +232,14 @@ def firm_of(bale):
 
 def columns_at(bale, at):
     """The ascending list of the columns that the strips of a bale have at an index."""
-    reached = leap(arcs_of(bale), [0], at)
-    return sorted({column for state in reached for column, _ in arcs_of(bale)[state]})
+    return _letters_after(arcs_of(bale), [0], at)
+
+
+def columns_from_end(bale, at):
+    """The ascending list of the columns that the strips of a bale have at an index counted from the last column."""
+    # The arcs are followed back as they are: the table of the mirrored bale may have very many states.
+    ends = [state for state, good in enumerate(bale.goods) if good]
+    return _letters_after(backwards(arcs_of(bale)), ends, at)
 
 
 def _check_rows(scheme, rows, goods):
@@ -281,6 +287,11 @@ def _branching(strips):
 def _with_jumps(arcs, goods, to):
     """The arcs, and beside each one to a good state another one to the state `to`."""
     return [row + [(column, to) for column, after in row if goods[after]] for row in arcs]
+
+
+def _letters_after(arcs, starts, times):
+    """The ascending list of the letters that a loose table may read after exactly `times` arcs."""
+    return sorted({letter for state in leap(arcs, starts, times) for letter, _ in arcs[state]})
 
 
 def _longer(bale, strip, state, rest):

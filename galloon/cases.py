@@ -1,6 +1,6 @@
 """Cases: what is known of a hall and of some sheets that go through its tools."""
 
-from galloon.bales import Bale, columns_at
+from galloon.bales import Bale, columns_at, columns_from_end
 from galloon.errors import (
     BadIndex,
     BadName,
@@ -151,7 +151,7 @@ class Case:
 
     def now(self, name):
         """The bale of the strips that a sheet may be now."""
-        return self._joined([self._trail(name, world)[-1] for world in self._now().left])
+        return self._joined(self._last_bales(name))
 
     def origin(self, name):
         """The bale of the strips that a sheet may have been at first."""
@@ -163,9 +163,8 @@ class Case:
         page = self._page(name)
         last = self._images.number_of(bale)
         worlds = self._now().left
-        return self._joined([
-            beginning(self._images, page, self._trail(name, world), world, last) for world in worlds
-        ])
+        numbers = [beginning(self._images, page, self._trail(name, world), world, last) for world in worlds]
+        return self._joined(self._different(numbers))
 
     def sure_spot(self, name, row, at, *, from_end=False):
         """The colour that a spot of a sheet surely has now, or None."""
@@ -174,12 +173,14 @@ class Case:
             raise BadRow(row)
         if at < 0:
             raise BadIndex(at)
-        bale = self.now(name)
-        if len(bale.first()) <= at:
-            return None
-        columns = columns_at(bale.mirrored() if from_end else bale, at)
-        colours = sorted({self.scheme.spots(column)[row] for column in columns})
-        return colours[0] if len(colours) == 1 else None
+        # The bales of the worlds are asked one by one: joined, they may have very many states.
+        colours = []
+        for bale in self._last_bales(name):
+            if len(bale.first()) <= at:
+                return None
+            columns = columns_from_end(bale, at) if from_end else columns_at(bale, at)
+            colours.extend([self.scheme.spots(column)[row] for column in columns])
+        return colours[0] if len(set(colours)) == 1 else None
 
     def verdict(self, name, bale):
         """Does a sheet belong to a bale "always", "never" or "sometimes"?"""
@@ -293,11 +294,19 @@ class Case:
         """The trail of a sheet in a world that is left."""
         return trail(self._images, self._page(name), claims_on(self._now().claims, name), world)
 
-    def _joined(self, numbers):
+    def _last_bales(self, name):
+        """The different bales of the strips that a sheet may be now, each in some world that is left."""
+        return self._different([self._trail(name, world)[-1] for world in self._now().left])
+
+    def _different(self, numbers):
+        """The different bales with some numbers."""
+        return [self._images.bale_at(number) for number in sorted(set(numbers))]
+
+    def _joined(self, bales):
         """The bale of the strips of several bales."""
         found = Bale.none(self.scheme)
-        for number in sorted(set(numbers)):
-            found = found | self._images.bale_at(number)
+        for bale in bales:
+            found = found | bale
         return found
 
     def _add(self, word, subject, *, time=0, seen=None, holding=None):

@@ -151,11 +151,12 @@ class Workshop(Deed):
 def flattened(deeds):
     """The list of the deeds, where each workshop is replaced by its deeds as often as there is one."""
     found = []
-    waiting = deeds[::-1]
+    # Deeds that have not been looked at, the next one last: workshops may be nested deeply.
+    waiting = list(reversed(list(deeds)))
     while waiting:
         deed = waiting.pop()
         if isinstance(deed, Workshop):
-            waiting.extend(deed.deeds[::-1])
+            waiting.extend(list(reversed(list(deed.deeds))))
         else:
             found.append(deed)
     return found

@@ -4,7 +4,7 @@ import copy
 import random
 import unittest
 
-from galloon.bales import Bale, columns_at, differing
+from galloon.bales import Bale, columns_at, columns_from_end, differing
 from galloon.errors import BadCount, UnlikeSchemes
 from galloon.schemes import Scheme
 from tests.helpers import FAR, ONE, SCHEMES, Checked, check_least_bale, members, random_rows, words
@@ -386,10 +386,29 @@ class GeneralTest(Checked):
             scheme = SCHEMES[at % 3]
             bale = Bale.listed(scheme, [random_word(rng, scheme) for _ in range(rng.randrange(6))])
             for index in range(4):
-                known = sorted({strip[index] for strip in members(bale, 4) if index < len(strip)})
-                self.assertEqual(columns_at(bale, index), known)
+                strips = [strip for strip in members(bale, 4) if index < len(strip)]
+                self.assertEqual(columns_at(bale, index), sorted({strip[index] for strip in strips}))
+                self.assertEqual(columns_from_end(bale, index), sorted({strip[-1 - index] for strip in strips}))
+        endless = Bale.shaped(TWO, "[bd](aa)*c")
         known = [["b", "d"], ["a", "c"], ["a"], ["a", "c"]]
-        self.assertEqual([columns_at(Bale.shaped(TWO, "[bd](aa)*c"), index) for index in range(4)], known)
+        self.assertEqual([columns_at(endless, index) for index in range(4)], known)
+        known = [["c"], ["a", "b", "d"], ["a"], ["a", "b", "d"]]
+        self.assertEqual([columns_from_end(endless, index) for index in range(4)], known)
+
+    def test_columns_from_the_end_of_random_tables(self):
+        rng = random.Random(63)
+        for at in range(100):
+            scheme = SCHEMES[at % 3]
+            bale = Bale(scheme, *random_rows(rng, scheme, rng.randint(1, 7)))
+            for index in range(12):
+                self.assertEqual(columns_from_end(bale, index), columns_at(bale.mirrored(), index))
+
+    def test_columns_from_an_end_that_is_hard_to_read_backwards(self):
+        # The mirrored strips have a table of more than a million states.
+        bale = Bale.showing(ONE, "b", 20) & Bale.showing(ONE, "ab", 2, from_end=True)
+        known = [["a", "b"], ["a", "b"], ["b"], ["a"], ["a", "b"]]
+        self.assertEqual([columns_from_end(bale, index) for index in range(5)], known)
+        self.assertEqual([columns_at(bale, index) for index in (19, 20, 21)], [["a", "b"], ["b"], ["a", "b"]])
 
     def test_the_examples_of_the_interface(self):
         found = [list(Bale.shaped(ONE, "a*b").strips(2)), Bale.shaped(ONE, "(aa)*").lengths()]

@@ -458,6 +458,36 @@ class QuestionsTest(Checked):
         self.assertEqual([endless.sure_spot("s", 0, at) for at in range(4)], ["1", "0", None, None])
         self.assertEqual([endless.sure_spot("s", 0, at, from_end=True) for at in range(4)], ["0", None, None, None])
 
+    def test_sure_spots_of_a_sheet_that_is_hard_to_read_backwards(self):
+        # The mirrored strips have a table of more than a million states.
+        case = Case(Hall(TWO, H=Hidden([Pass(Paint(TWO, ["01", maps]), Mask.every()) for maps in ("01", "10")])))
+        case.lay("s", Bale.showing(TWO, "b", 20))
+        case.work("s", "H")
+        case.see("s", Bale.showing(TWO, "cb", 3, from_end=True))
+        for row, at, from_end, spot in (
+            (0, 20, False, "0"), (1, 20, False, None), (0, 19, False, None), (0, 21, False, None),
+            (0, 4, True, "1"), (1, 4, True, "0"), (0, 3, True, "0"), (1, 3, True, "1"), (0, 2, True, None), (1, 5, True, None),
+            (0, 20, True, None), (0, 21, True, None), (1, FAR, True, None),
+        ):
+            self.assertEqual(case.sure_spot("s", row, at, from_end=from_end), spot)
+
+    def test_sure_spots_in_worlds_that_are_hard_to_join(self):
+        # In each world the number of columns before the last one has other divisors.
+        gates = [Gate(ONE, f"({'a' * many})*b") for many in (5, 7, 8, 9, 11)]
+        case = Case(Hall(ONE, H=Hidden(gates)))
+        ring = 13 * 17
+        rows = [[(at + 1) % ring] * 2 for at in range(ring)]
+        case.lay("s", Bale(ONE, rows, [at == 1 for at in range(ring)]))
+        case.work("s", "H")
+        self.assertEqual(case.many, 5)
+        for from_end, spot in ((False, None), (True, "1")):
+            self.assertEqual(case.sure_spot("s", 0, 0, from_end=from_end), spot)
+            self.assertIsNone(case.sure_spot("s", 0, 1, from_end=from_end))
+        case.see("s", ~Bale.listed(ONE, ["b"]))
+        for at, from_end, spot in ((0, False, "0"), (0, True, "1"), (1, True, "0"), (5 * ring, False, None), (5 * ring, True, "0")):
+            self.assertEqual(case.sure_spot("s", 0, at, from_end=from_end), spot)
+        self.assertIsNone(case.sure_spot("s", 0, 5 * ring + 1, from_end=True))
+
     def test_verdicts(self):
         case = Case(small_hall())
         case.lay("s", Bale.shaped(ONE, "a+"))

@@ -108,9 +108,8 @@ def is_new(value):
         return True
     if isinstance(value, ast.Call) and isinstance(value.func, ast.Name):
         return value.func.id in MAKERS
-    if isinstance(value, ast.BinOp):
-        return is_new(value.left) and is_new(value.right)
-    return isinstance(value, ast.Subscript) and isinstance(value.slice, ast.Slice)
+    # What brackets give is not plainly new: they may be those of an own class.
+    return isinstance(value, ast.BinOp) and is_new(value.left) and is_new(value.right)
 
 
 def other_meanings(function, name):

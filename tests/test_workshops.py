@@ -202,6 +202,16 @@ class NestedTest(Checked):
         bale = Bale.shaped(ONE, "ab*")
         self.assertEqual((deepest.image(bale), deepest.source(bale)), (TURN.image(bale), TURN.source(bale)))
 
+    def test_written_forms_of_deep_ones_keep_the_order(self):
+        before = after = Workshop.of(ONE, CUT)
+        for _ in range(1500):
+            before = Workshop.of(ONE, TURN, before)
+            after = Workshop.of(ONE, Workshop(ONE, []), after, FLIP, Gate(ONE, ""))
+        self.assertEqual(str(before), "turn 1 ; " * 1500 + "cut 1 0")
+        self.assertEqual(str(after), "cut 1 0" + " ; mirror ; gate -" * 1500)
+        self.assertEqual(str(before + after), f"{before} ; {after}")
+        self.assertEqual((before.deeds[0], len(after.deeds), len(before + after)), (TURN, 4, 6))
+
     def test_empty_ones(self):
         empty = Workshop(ONE, [])
         for _ in range(5):
